@@ -1,0 +1,1 @@
+"""Bearfaults: nets of gates that bear faults."""
