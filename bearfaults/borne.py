@@ -1,6 +1,6 @@
 """Tells how many faults a net bears, and which of its gates matter."""
 
-from bearfaults.runs import Bench, bit_at
+from bearfaults.runs import Bench
 
 
 def choices(places, size):
@@ -33,10 +33,6 @@ class Trial:
                 mask = mask | (before[0] ^ after[0]) | (before[1] ^ after[1])
         return mask
 
-    def inputs_in(self, mask):
-        """The numbers of the mask's inputs, rising."""
-        return [number for number in range(self.bench.many_inputs) if bit_at(mask, number) == 1]
-
 
 def bears(net, many, level):
     """("bears",), or ("breaks", turned, number): the fewest gates, the first set, the first input."""
@@ -45,7 +41,7 @@ def bears(net, many, level):
         for turned in choices(trial.unsure, size):
             mask = trial.breaks_at(turned, level)
             if mask != 0:
-                return ("breaks", turned, trial.inputs_in(mask)[0])
+                return ("breaks", turned, trial.bench.inputs_in(mask)[0])
     return ("bears",)
 
 
@@ -57,5 +53,5 @@ def matters(net):
         wrong = trial.breaks_at((place,), "safe")
         # An out of a sound net that is read otherwise, but not as the other bit, is read as None.
         none = trial.breaks_at((place,), "right") ^ wrong
-        found.append((place, len(trial.inputs_in(wrong)), len(trial.inputs_in(none))))
+        found.append((place, len(trial.bench.inputs_in(wrong)), len(trial.bench.inputs_in(none))))
     return found

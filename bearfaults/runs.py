@@ -118,14 +118,21 @@ class Bench:
         self.full = mask_of([1 for bits in inputs])
         self.in_masks = [in_mask(inputs, place) for place in range(len(net[0]))]
 
+    def tells(self, turned, bad):
+        """For each out a tuple of what its wires tell, with the gates of turned and the ins' wires of bad turned."""
+        return out_masks(self.net, wire_masks(self.net, self.in_masks, self.full, turned, bad))
+
     def readings(self, turned):
         """How each out is read, with the gates of turned turned."""
-        wires = wire_masks(self.net, self.in_masks, self.full, turned, ())
-        return [reading(masks, self.full) for masks in out_masks(self.net, wires)]
+        return [reading(masks, self.full) for masks in self.tells(turned, ())]
 
     def column(self, masks):
         """What an out of this reading is read as at each input."""
         return [read_at(masks, number) for number in range(self.many_inputs)]
+
+    def inputs_in(self, mask):
+        """The numbers of the mask's inputs, rising."""
+        return [number for number in range(self.many_inputs) if bit_at(mask, number) == 1]
 
 
 def is_sound(net):

@@ -96,6 +96,35 @@ def surest(net, many, level):
             return places
 
 
+def bad_sets(net):
+    """The sets of ins' wires with at most one of each in, but the empty one, fewer first, then by their numbers."""
+    owners = [place for place, (name, width) in enumerate(net[0]) for figure in range(width)]
+    for many in range(1, len(net[0]) + 1):
+        for bad in itertools.combinations(range(len(owners)), many):
+            if len(set(owners[wire] for wire in bad)) == many:
+                yield bad
+
+
+def hands_on(net, bits, turned, bad):
+    """Whether some out has more than one wire that tells otherwise than with nothing turned."""
+    for before, after in zip(run(net, bits, (), ()), run(net, bits, turned, bad)):
+        if sum(one != other for one, other in zip(before, after)) > 1:
+            return True
+    return False
+
+
+def keeps(net):
+    for number, bits in enumerate(inputs(net)):
+        if any(len(set(out)) > 1 for out in run(net, bits, (), ())):
+            return ("loses", (), (), number)
+    tried = [((), (place,)) for place in unsure(net)] + [(bad, ()) for bad in bad_sets(net)]
+    for bad, turned in tried:
+        for number, bits in enumerate(inputs(net)):
+            if hands_on(net, bits, turned, bad):
+                return ("loses", bad, turned, number)
+    return ("keeps",)
+
+
 class Picks:
     """Numbers that look mixed and are the same in every run."""
 
@@ -151,6 +180,39 @@ def any_net(seed, most_gates=8):
     for place in range(1 + picks.below(4)):
         outs.append(("yzwv"[place], tuple(picks.below(top) for k in range(1 + picks.below(3)))))
     return (ins, gates, outs)
+
+
+def plain_net(seed, most_gates=8):
+    """A net of some gates all of whose ins and outs are of one wire."""
+    picks = Picks(seed)
+    ins = [("pqrstu"[place], 1) for place in range(1 + picks.below(4))]
+    gates = []
+    add_gates(picks, gates, len(ins), picks.below(most_gates + 1))
+    top = len(ins) + len(gates)
+    outs = [("yzwv"[place], (picks.below(top),)) for place in range(1 + picks.below(4))]
+    return (ins, gates, outs)
+
+
+def threes_net(seed, in_names="pqr", out_names="yzw"):
+    """A net of ins and outs of three wires: copies of gates in threes, now and then some wire mistaken; it may keep."""
+    picks = Picks(seed)
+    ins = [(name, 3) for name in in_names[:1 + picks.below(len(in_names))]]
+    lanes = [[place * 3 + lane for lane in range(3)] for place in range(len(ins))]
+    gates = []
+    # Ins that are voted on at once are those that let a net of several ins keep.
+    for place in range(len(ins) if picks.below(2) else 0):
+        gates.extend([("vote", tuple(lanes[place]), picks.below(5) == 0)] * 3)
+        lanes[place] = [len(ins) * 3 + len(gates) - 3 + lane for lane in range(3)]
+    for place in range(picks.below(3)):
+        kind = list(COUNTS)[picks.below(5)]
+        reads = [lanes[picks.below(len(lanes))] for k in range(COUNTS[kind])]
+        for lane in range(3):
+            gates.append((kind, tuple(one[lane] for one in reads), picks.below(5) == 0))
+        lanes.append([len(ins) * 3 + len(gates) - 3 + lane for lane in range(3)])
+    outs = [[name, list(lanes[picks.below(len(lanes))])] for name in out_names[:1 + picks.below(len(out_names))]]
+    if picks.below(6) == 0:
+        outs[0][1][picks.below(3)] = picks.below(len(ins) * 3 + len(gates))
+    return (ins, gates, [(name, tuple(wires)) for name, wires in outs])
 
 
 def lists_in(value):
